@@ -1,0 +1,1 @@
+"""Rows of bits, on which all other parts build."""

@@ -1,0 +1,1 @@
+"""Books of sayings, and signs for them."""

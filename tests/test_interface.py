@@ -1,0 +1,58 @@
+"""The names, arguments and constants of the interface, each defined in the file under which it is listed."""
+
+import ast
+import importlib
+import unittest
+from pathlib import Path
+
+ROOT = Path(__file__).resolve().parent.parent
+LISTED = {
+    "askedapart.base.bits": """is_bits(value) are_rows(value) bits_sum(one,other) bits_product(one,other)
+        summed(rows,pick) basis(rows) span_rank(rows) kernel(rows) solved(rows,goal) is_solved(rows,goal,value)
+        solution_count(rows,goal) solutions(rows,goal) sum_or_test(rows,row) is_sum_or_test(rows,row,value)
+        meet(rows,more) MOST_BITS=64 MOST_ROWS=64 MOST_SOLUTIONS=1024""",
+    "askedapart.say.books": """Book(many,sayings) is_lot(book,value) sum_of(book,lot) does_cancel(book,lot)
+        is_odd(book,lot) cancelling(book) sayings_with(book,unknown) pieces(book) is_paired(book)
+        piece_book(book,piece) beside(one,other) with_bits(book,bits) turned(book,unknowns)
+        MOST_UNKNOWNS=24 MOST_SAYINGS=16 MOST_MEMBERS=8""",
+    "askedapart.say.signs": """are_right(book,value) signs_or_lot(book) is_signs_or_lot(book,value) sign_count(book)
+        all_signs(book) lot_or_signs(book,wish) is_lot_or_signs(book,wish,value) told(book) false_lot(book,signs)
+        signs_for(book,lot) is_signs_for(book,lot,value) fewest(book) fewest_signs(book) is_fewest_signs(book,value)
+        MOST_SIGNS=1024 MOST_TRIED=12""",
+}
+
+
+def arguments(node):
+    """The names of all parameters, of the __init__ for a class."""
+    if isinstance(node, ast.ClassDef):
+        made = [one for one in node.body if isinstance(one, ast.FunctionDef) and one.name == "__init__"]
+        return ",".join(one.arg for one in made[0].args.args[1:])
+    return ",".join(one.arg for one in node.args.args)
+
+
+def written(module):
+    """All that a file defines, written as it is listed."""
+    tree = ast.parse((ROOT / (module.replace(".", "/") + ".py")).read_text())
+    found = set()
+    for node in tree.body:
+        if isinstance(node, (ast.FunctionDef, ast.ClassDef)):
+            found.add(f"{node.name}({arguments(node)})")
+        elif isinstance(node, ast.Assign):
+            found.add(f"{node.targets[0].id}={ast.unparse(node.value)}")
+    return found
+
+
+class Interface(unittest.TestCase):
+    def test_all_that_is_listed_is_defined_there(self):
+        for module, listed in LISTED.items():
+            self.assertEqual(set(listed.split()) - written(module), set(), module)
+
+    def test_all_can_be_imported(self):
+        for module, listed in LISTED.items():
+            held = vars(importlib.import_module(module))
+            for entry in listed.split():
+                self.assertIn(entry.split("(")[0].split("=")[0], held)
+
+
+if __name__ == "__main__":
+    unittest.main()
