@@ -19,6 +19,20 @@ LISTED = {
         all_signs(book) lot_or_signs(book,wish) is_lot_or_signs(book,wish,value) told(book) false_lot(book,signs)
         signs_for(book,lot) is_signs_for(book,lot,value) fewest(book) fewest_signs(book) is_fewest_signs(book,value)
         MOST_SIGNS=1024 MOST_TRIED=12""",
+    "askedapart.net.graphs": """Graph(many,lines) graph_of(book) book_of(graph,bits) lines_at(graph,knot) pieces_of(graph)
+        is_way(graph,one,other,value) way_or_apart(graph,one,other) is_way_or_apart(graph,one,other,value) tree_of(graph)
+        is_tree(graph,value) ring_of(graph,tree,line) rings_of(graph,tree,lines) is_even(graph,value) even_count(graph)
+        two_or_cut(graph,one,other) is_two_or_cut(graph,one,other,value) MOST_KNOTS=16 MOST_LINES=24""",
+    "askedapart.net.turns": """is_turning(graph,value) behind(graph,turning,line,direction) rounds(graph,turning)
+        round_count(graph,turning) handles(graph,turning) is_drawn(graph,turning) with_line(graph,turning,spot,other)
+        sides(graph,turning) border(graph,turning,lot) bordered(graph,turning,lines)
+        is_bordered(graph,turning,lines,value)""",
+    "askedapart.net.plane": """blocks(graph) is_circle(graph,value) fragments(graph,circle) conflicts(graph,circle)
+        sides_or_odd(graph,circle) is_sides_or_odd(graph,circle,value) turning_or_bar(graph)
+        is_turning_or_bar(graph,value) is_planar(graph)""",
+    "askedapart.net.bars": """is_bar(graph,value) bar_lines(graph,bar) is_critical(graph,lines)
+        critical_lines(graph,lines) bar_by_lines(graph,lines) are_clumps(graph,value) clumps_of(graph,bar)
+        bar_by_clumps(graph,clumps) grown(graph,clumps)""",
 }
 
 

@@ -18,6 +18,7 @@ WORDS = set("""typing enum Enum Generic Protocol ABC namedtuple NamedTuple datac
     mro elements open input law eval exec globals locals vars dir id type hash""".split())
 BARRED = (ast.GeneratorExp, ast.Global, ast.AsyncFunctionDef, ast.Await, ast.Div)
 OUTSIDE = {"heapq", "math", "itertools", "collections"}
+COMPREHENSIONS = (ast.ListComp, ast.SetComp, ast.DictComp)
 
 
 def modules():
@@ -42,6 +43,15 @@ def bound_inside(tree):
     tops = [node for node in tree.body if isinstance(node, (ast.FunctionDef, ast.ClassDef))]
     return found | {node.id for top in tops for node in ast.walk(top)
                     if isinstance(node, ast.Name) and isinstance(node.ctx, ast.Store)}
+
+
+def assigned(tree, left=()):
+    """All names that a part of a function binds, but for those of the parts that are left out."""
+    names = [node for node in ast.walk(tree) if isinstance(node, (ast.Name, ast.arg))]
+    inner = {id(node) for part in left for node in ast.walk(part)}
+    found = {node.arg for node in names if isinstance(node, ast.arg)}
+    return found | {node.id for node in names if isinstance(node, ast.Name) and isinstance(node.ctx, ast.Store)
+                    and id(node) not in inner}
 
 
 class Files(unittest.TestCase):
@@ -143,6 +153,33 @@ class Code(unittest.TestCase):
                 if isinstance(node, ast.FunctionDef):
                     self.assertTrue(all(isinstance(one, ast.Name) and one.id == "property"
                                         for one in node.decorator_list), path)
+
+    def test_ranges_and_their_kin_are_iterated_at_once(self):
+        taking = ("list", "tuple", "dict", "sorted", "sum", "any", "all", "enumerate", "zip", "min", "max", "len")
+        for path, tree in modules():
+            allowed = set()
+            for node in ast.walk(tree):
+                if isinstance(node, (ast.For, ast.comprehension)):
+                    allowed.add(id(node.iter))
+                if isinstance(node, ast.Call) and isinstance(node.func, ast.Name) and node.func.id in taking:
+                    allowed |= {id(one) for one in node.args}
+                if isinstance(node, ast.Assign) and isinstance(node.targets[0], ast.Name):
+                    if isinstance(node.value, ast.Call) and getattr(node.value.func, "id", "") == "range":
+                        allowed.add(id(node.value))
+            for node in ast.walk(tree):
+                if isinstance(node, ast.Call):
+                    name = getattr(node.func, "id", getattr(node.func, "attr", ""))
+                    if name in ("range", "zip", "enumerate", "reversed", "items", "keys", "values"):
+                        self.assertIn(id(node), allowed, (path, node.lineno))
+
+    def test_names_in_inner_comprehensions(self):
+        for path, tree in modules():
+            for node in [node for node in ast.walk(tree) if isinstance(node, ast.FunctionDef)]:
+                outer = [one for one in ast.walk(node) if isinstance(one, COMPREHENSIONS)]
+                for one in outer:
+                    within = [more for more in ast.walk(one) if isinstance(more, COMPREHENSIONS) and more is not one]
+                    for more in within:
+                        self.assertEqual(assigned(more) & (assigned(node, outer) | assigned(one, within)), set(), path)
 
     def test_sets_are_only_measured_sorted_or_asked(self):
         for path, tree in modules():

@@ -33,6 +33,11 @@ def are_ascending(value, many):
     return all([value[k] < value[k + 1] for k in range(len(value) - 1)])
 
 
+def has_form(value, word, size):
+    """Whether the value is a tuple with so many members, of which the first one is this word."""
+    return has_size(value, size, size) and isinstance(value[0], str) and value[0] == word
+
+
 def is_told(value, word):
     """Whether the value is a pair of this word and of something."""
-    return has_size(value, 2, 2) and isinstance(value[0], str) and value[0] == word
+    return has_form(value, word, 2)

@@ -1,0 +1,1 @@
+"""Graphs, their turnings, and whether they can be drawn in the plane."""
