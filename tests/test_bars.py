@@ -1,7 +1,7 @@
 """Promises [7.1] to [7.6]: bars, critical lots of lines, clumps."""
 
 import unittest
-from itertools import combinations, product
+from itertools import combinations, permutations, product
 from random import Random
 
 from askedapart.errors import InvalidGraph, InvalidOperation, Refused
@@ -122,6 +122,22 @@ def wrong_bars(graph, bar):
     return found
 
 
+def told_anew(graph, bar, order):
+    """The bar with its branches in another sequence, and its ways as these ask for them, where there are some."""
+    if bar[0] == "five":
+        lots, pairs = (order,), [(order[i], order[j]) for i, j in combinations(range(5), 2)]
+    else:
+        lots, pairs = (order[:3], order[3:]), [(a, b) for a in order[:3] for b in order[3:]]
+    walks = {}
+    for way in bar[-1]:
+        for start in graph.lines[way[0]]:
+            walk = own_walk(graph, start, way)
+            if walk is not None:
+                walks[(start, walk[-1])] = way
+                walks[(walk[-1], start)] = way[::-1]
+    return (bar[0], *lots, tuple(walks.get(pair, (0,)) for pair in pairs))
+
+
 def plain(value):
     """Whether a value is of the kinds of a bar throughout, so that its words can be asked."""
     numbers = [*value[1:-1], *value[-1]] if type(value) is tuple and len(value) > 2 and type(value[-1]) is tuple else [None]
@@ -168,6 +184,23 @@ class Bars(unittest.TestCase):
         self.assertIs(is_bar(CUBIC, ("six", (3, 4, 5), (0, 1, 2), tuple((k,) for k in (0, 3, 6, 1, 4, 7, 2, 5, 8)))), False)
         self.assertIs(is_bar(CUBIC, ("five", (0, 1, 2, 3, 4), ((0,),) * 10)), False)
         self.assertIs(is_bar(CUBIC, ("six", (0, 1, 2), (3, 4, 5), CUBE_BAR[3], ())), False)
+
+    def test_branches_in_another_sequence_or_of_other_numbers(self):
+        for graph in [*SMALL[:6], complete(6), Graph(6, tuple((a, b) for a, b in combinations(range(6), 2) if a % 2 != b % 2))]:
+            for bar in own_bars(graph)[:12]:
+                values = {tuple(order) for order in permutations(bar[1] if bar[0] == "five" else bar[1] + bar[2])}
+                for order in values:
+                    value = told_anew(graph, bar, order)
+                    self.assertIs(is_bar(graph, value), value == bar, value)
+        wide = Graph(7, tuple((a, b) for a in range(3) for b in range(3, 7)))
+        ways = tuple((line,) for line in range(12))
+        self.assertIs(is_bar(wide, ("six", (0, 1, 2), (3, 4, 5, 6), ways)), False)
+        tall = Graph(7, tuple((a, b) for a in range(4) for b in range(4, 7)))
+        self.assertIs(is_bar(tall, ("six", (0, 1, 2, 3), (4, 5, 6), ways)), False)
+        self.assertIs(is_bar(CUBIC, ("six", (0, 1), (3, 4, 5), CUBE_BAR[3][:6])), False)
+        self.assertIs(is_bar(CUBIC, ("six", (0, 1, 2), (3, 4), tuple((k,) for k in (0, 1, 3, 4, 6, 7)))), False)
+        self.assertIs(is_bar(FOUR, ("five", (0, 1, 2, 3), tuple((k,) for k in range(6)))), False)
+        self.assertIs(is_bar(complete(6), ("five", (0, 1, 2, 3, 4, 5), tuple((k,) for k in range(15)))), False)
 
     def test_ways_that_meet(self):
         # A bar of six with a knot that two ways have within; a line between two branches is no way through a third.
@@ -318,6 +351,15 @@ class Clumps(unittest.TestCase):
                       ("five", ((0,), (1,), (2,), (3,))), ("five", ((0,), (1,), (2,), (3,), (4,)), ()),
                       ("five", ((0,), (1,), (2,), (3,), (3, 4))), ("five", ((0,), (1,), (2,), (4,), (3,)))):
             self.assertIs(are_clumps(FIVE, value), False)
+        wide = Graph(7, tuple((a, b) for a in range(3) for b in range(3, 7)))
+        singles = tuple((knot,) for knot in range(7))
+        for value in (("six", singles[:3], singles[3:]), ("six", singles[:2], singles[3:6]), ("six", singles[:3], singles[3:5])):
+            self.assertIs(are_clumps(wide, value), False)
+        tall = Graph(7, tuple((a, b) for a in range(4) for b in range(4, 7)))
+        self.assertIs(are_clumps(tall, ("six", singles[:4], singles[4:])), False)
+        self.assertIs(are_clumps(complete(6), ("five", singles[:6])), False)
+        self.assertIs(are_clumps(complete(6), ("five", singles[:4])), False)
+        self.assertIs(are_clumps(complete(6), ("five", singles[1:6])), True)
         for value in (("six", ((3,), (4,), (5,)), ((0,), (1,), (2,))), ("six", ((0,), (2,), (1,)), ((3,), (4,), (5,))),
                       ("six", ((0,), (1,), (3,)), ((2,), (4,), (5,))), ("six", ((0,), (1,), (2,)), ((3,), (4,)))):
             self.assertIs(are_clumps(CUBIC, value), False)
@@ -380,9 +422,9 @@ class BarsByClumps(unittest.TestCase):
             words.append((word, self.check(graph, clumps)))
             # Further knots and lines that are in no clump, and lines between the clumps.
             wider = glued(graph, ring(3), [CHANCE.randrange(graph.many)])
-            more = tuple(tuple(sorted(CHANCE.sample(range(wider.many), 2))) for _ in range(max(24 - len(wider.lines), 0)))
             if len(wider.lines) <= 24:
-                self.check(Graph(wider.many, wider.lines + more), clumps)
+                more = tuple(tuple(sorted(CHANCE.sample(range(wider.many), 2))) for _ in range(24 - len(wider.lines)))
+                self.check(*renamed_with(Graph(wider.many, wider.lines + more), clumps))
         self.assertEqual(set(words), {("five", "five"), ("five", "six"), ("six", "six")})
 
     def test_clumps_of_five_whose_bar_is_one_of_six(self):

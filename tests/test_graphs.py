@@ -340,6 +340,11 @@ class TwoWaysOrACut(unittest.TestCase):
         # The shortest way stands across both ways, and is in no two of them.
         graph = Graph(6, ((0, 1), (1, 2), (2, 5), (0, 3), (2, 3), (1, 4), (4, 5)))
         self.assertEqual(set(two_or_cut(graph, 0, 5)[1:]), {(0, 5, 6), (3, 4, 2)})
+        # The short way is left for good between 0 and 1, and between 4 and 5; in between both go round it.
+        ends = ((0, 1), (1, 2), (2, 3), (3, 4), (4, 5), (0, 6), (6, 7), (7, 8), (4, 8), (1, 9), (9, 10), (10, 11), (5, 11))
+        self.assertEqual(way_or_apart(Graph(12, ends), 0, 5), ("way", (0, 1, 2, 3, 4)))
+        self.assertEqual(set(two_or_cut(Graph(12, ends), 0, 5)[1:]), {(5, 6, 7, 8, 4), (0, 9, 10, 11, 12)})
+        self.assertEqual(set(two_or_cut(Graph(12, ends), 5, 0)[1:]), {(4, 8, 7, 6, 5), (12, 11, 10, 9, 0)})
         chance = Random(6)
         for _ in range(60):
             graph = random_graph(chance, 16, 24)

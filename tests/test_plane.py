@@ -139,6 +139,15 @@ class Circles(unittest.TestCase):
         self.assertIs(is_circle(KITE, (0, 4)), True)
         self.assertIs(is_circle(KITE, (3, 3)), False)
 
+    def test_lines_that_go_round_two_circles(self):
+        twice = Graph(4, ((0, 1), (0, 1), (0, 2), (0, 2)))
+        self.assertEqual([value for size in range(5) for value in product(range(4), repeat=size) if is_circle(twice, value)],
+                         [(0, 1), (2, 3)])
+        knotted = Graph(6, ((0, 1), (0, 2), (1, 2), (0, 3), (0, 4), (3, 4)))
+        self.assertEqual(own_walk(knotted, 0, (0, 2, 1, 3, 5, 4)), [0, 1, 2, 0, 3, 4, 0])
+        for value in permutations(range(6)):
+            self.assertIs(is_circle(knotted, value), False)
+
     def test_sixteen_knots(self):
         lines = ring(16).lines
         walk = sorted(range(16), key=lambda line: lines[line][1] if lines[line] != (0, 15) else 16)
@@ -252,6 +261,18 @@ class Sides(unittest.TestCase):
             self.assertIs(is_sides_or_odd(graph, circle, ("odd", list(row))), False)
             self.assertIs(is_sides_or_odd(graph, circle, ("odd", row + row[:1])), False)
         self.assertIs(is_planar(graph), False)
+
+    def test_rows_with_unlike_ones_alone(self):
+        graph = Graph(6, ring(6).lines + ((0, 3), (1, 4), (2, 5)) * 2)
+        circle = next(found for found in own_circles(graph) if sorted(found) == list(range(6)))
+        many, pairs = len(own_fragments(graph, circle)), own_conflicts(graph, circle)
+        judged = {True: 0, False: 0}
+        for row in product(range(6), repeat=5):
+            if all((min(a, b), max(a, b)) in pairs for a, b in zip(row, row[1:] + row[:1])):
+                wanted = own_is_sides_or_odd(many, pairs, ("odd", row))
+                judged[wanted] += 1
+                self.assertIs(is_sides_or_odd(graph, circle, ("odd", row)), wanted)
+        self.assertGreater(min(judged.values()), 0)
 
     def test_only_values_of_the_right_kind(self):
         for value in (("odd", (0, True, 2)), ("odd", (False, 1, 2)), ("odd", [0, 1, 2]), ["odd", (0, 1, 2)], ("odd", (0,)),
