@@ -138,6 +138,26 @@ def kernel_masks(masks, length):
     return [free_mask(kept, place) for place in places if not heads & place]
 
 
+def solved_masks(masks, asked):
+    """("bits", x) with the product 1 with just the masks in the pick asked for, or ("bar", pick) as of solved."""
+    kept, empty = put_apart(masks)
+    for pick in empty:
+        if ones(pick & asked) & 1:
+            return ("bar", pick)
+    # Heads stand apart, so that with 0 at all other places each head settles the product of its own mask alone.
+    return ("bits", sum([head for head, _, pick in kept if ones(pick & asked) & 1]))
+
+
+def sum_or_test_masks(masks, goal):
+    """("sum", pick) of the masks that sum to the goal, or ("test", x) with the product 1 with the goal alone."""
+    kept, _ = put_apart(masks)
+    rest, pick = put_down(kept, goal, 0)
+    if rest == 0:
+        return ("sum", pick)
+    # What is left has 0 at all heads, so that one of its other places tells it from the span.
+    return ("test", free_mask(kept, 1 << (rest.bit_length() - 1)))
+
+
 def all_sums(start, masks):
     """Start with the sum of each lot of the masks; digit k of the index tells whether mask k is in it."""
     found = [start]
@@ -205,14 +225,8 @@ def kernel(rows):
 def solved(rows, goal):
     """("bits", x) with products with the rows as the goal tells, or ("bar", pick) that shows there is none."""
     check_goal(rows, goal)
-    kept, empty = put_apart(masks_of(rows))
-    asked = pick_where(goal)
-    for pick in empty:
-        if ones(pick & asked) & 1:
-            return ("bar", places_of(pick))
-    # Heads stand apart, so that with 0 at all other places each head settles the product of its own row alone.
-    found = sum([head for head, _, pick in kept if ones(pick & asked) & 1])
-    return ("bits", row_of(found, len(rows[0])))
+    word, found = solved_masks(masks_of(rows), pick_where(goal))
+    return ("bar", places_of(found)) if word == "bar" else ("bits", row_of(found, len(rows[0])))
 
 
 def is_solved(rows, goal, value):
@@ -252,13 +266,8 @@ def solutions(rows, goal):
 def sum_or_test(rows, row):
     """("sum", pick) of which the row is the sum, or ("test", bits) with the product 1 with the row alone."""
     check_rows_and_row(rows, row)
-    kept, _ = put_apart(masks_of(rows))
-    rest, pick = put_down(kept, mask_of(row), 0)
-    if rest == 0:
-        return ("sum", places_of(pick))
-    # What is left has 0 at all heads, so that one of its other places tells it from the span.
-    place = 1 << (rest.bit_length() - 1)
-    return ("test", row_of(free_mask(kept, place), len(row)))
+    word, found = sum_or_test_masks(masks_of(rows), mask_of(row))
+    return ("sum", places_of(found)) if word == "sum" else ("test", row_of(found, len(row)))
 
 
 def is_sum_or_test(rows, row, value):

@@ -33,6 +33,20 @@ def are_ascending(value, many):
     return all([value[k] < value[k + 1] for k in range(len(value) - 1)])
 
 
+def are_pairs_below(value, many, more):
+    """Whether the value is an ascending tuple of pairs of an index below many and one below more; () is one."""
+    if not has_size(value, 0, many * more) or not all([has_size(pair, 2, 2) for pair in value]):
+        return False
+    if not all([is_index(one, many) and is_index(other, more) for one, other in value]):
+        return False
+    return all([value[k] < value[k + 1] for k in range(len(value) - 1)])
+
+
+def are_rising_pairs(value, many):
+    """Whether the value is an ascending tuple of pairs of indices below many, the lesser one ahead; () is one."""
+    return are_pairs_below(value, many, many) and all([low < high for low, high in value])
+
+
 def has_form(value, word, size):
     """Whether the value is a tuple with so many members, of which the first one is this word."""
     return has_size(value, size, size) and isinstance(value[0], str) and value[0] == word

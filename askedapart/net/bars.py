@@ -1,15 +1,11 @@
 """Bars, which show that no turning draws a graph: critical lots of lines, and clumps of knots."""
 
 from askedapart.base.checks import are_ascending, has_form, has_size
+from askedapart.base.lots import pairs_of
 from askedapart.errors import InvalidOperation, Refused
 from askedapart.net.draw import critical_among
 from askedapart.net.graphs import check_graph, is_walk
 from askedapart.net.walks import all_lines, far_end, knots_along, merged
-
-
-def pairs_of(knots):
-    """The ascending list of the pairs of two of these ascending knots."""
-    return [(low, high) for low in knots for high in knots if low < high]
 
 
 def pairs_between(ones, others):

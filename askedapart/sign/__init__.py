@@ -1,0 +1,1 @@
+"""Operators, tables of those that do not commute, and operators for books."""
