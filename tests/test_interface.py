@@ -33,6 +33,31 @@ LISTED = {
     "askedapart.net.bars": """is_bar(graph,value) bar_lines(graph,bar) is_critical(graph,lines)
         critical_lines(graph,lines) bar_by_lines(graph,lines) are_clumps(graph,value) clumps_of(graph,bar)
         bar_by_clumps(graph,clumps) grown(graph,clumps)""",
+    "askedapart.net.arcs": """are_pairs(graph,value) are_moves(graph,value) crossing_pairs(graph,order)
+        turned_pairs(graph,pairs,moves) moves_between(graph,order,other) is_moves_between(graph,order,other,value)
+        moves_or_table(graph,order) is_moves_or_table(graph,order,value) is_odd_table(graph,value)
+        table_of_bar(graph,bar) move_count(graph)""",
+    "askedapart.sign.operators": """is_operator(value) do_commute(one,other) bits_of(operator) times(one,other)
+        product(one,other) product_of(row,indices) quarter(operator,by) led_or_unlike(row,others)
+        is_led_or_unlike(row,others,value) MOST_LETTERS=12 MOST_OPERATORS=24 MOST_TURNS=200""",
+    "askedapart.sign.tables": """is_table(many,value) rank(many,table) do_bundles_commute(many,table,bundle,further)
+        couples_or_strings(many,table,number) is_couples_or_strings(many,table,number,value)
+        led_table(many,table,change) change_to(many,table,other) is_change_to(many,table,other,value)
+        string_count(many,table,number)""",
+    "askedapart.sign.answers": """are_right_operators(book,value) table_of(book,operators) crossings(book,lot)
+        is_right_table(book,value) table_count(book) operators_by(book,table) operators_or_bar(book)
+        is_operators_or_bar(book,value)""",
+    "askedapart.say.undoings": """row_behind(book,row,steps) sum_behind(book,steps) put_lot(book,steps)
+        is_undoing(book,value) paper_of(book,steps) led_back(book,row,steps) is_led_back(book,row,steps,value)
+        MOST_ROW=200 MOST_STEPS=4000""",
+    "askedapart.main.rounds": """is_growth(book,piece,value) row_by(book,turning,piece,growth) left_of(row)
+        undoing_by(book,turning,piece) is_undoing_by(book,turning,piece,value) turning_by(book,steps) MOST_IN_ROW=200""",
+    "askedapart.main.lifts": """lifted(book,bar) is_lifted(book,bar,value) six_or_parting(graph)
+        is_six_or_parting(graph,value) fewest_qubits(book) few_operators(book)
+        NINE=('+XI','+IX','+XX','+IZ','+ZI','+ZZ','+XZ','+ZX','+YY')
+        TEN=('+XII','+IXI','+IIX','+XXX','+IIZ','+IZI','+XZZ','+ZII','+ZXZ','+ZZX')""",
+    "askedapart.main.answers": """kinds(book) answer(book) is_answer(book,value)
+        turned_operators(book,unknowns,operators)""",
 }
 
 
@@ -52,7 +77,7 @@ def written(module):
         if isinstance(node, (ast.FunctionDef, ast.ClassDef)):
             found.add(f"{node.name}({arguments(node)})")
         elif isinstance(node, ast.Assign):
-            found.add(f"{node.targets[0].id}={ast.unparse(node.value)}")
+            found.add(f"{node.targets[0].id}={ast.unparse(node.value)}".replace(" ", ""))
     return found
 
 

@@ -1,0 +1,1 @@
+"""What operators and graphs in the plane tell of books together."""
