@@ -332,6 +332,19 @@ class SixOrParting(unittest.TestCase):
         bare = [("drawn", tuple(sorted(some)), turns_by(some)) for some in (((0, 1), (1, 2)), ((0, 3), (2, 3)))]
         self.assertIs(is_six_or_parting(square, ("parted", (*bare, ("split", square.lines, (0, 2))))), False)
 
+    def test_parts_have_fewer_pairs(self):
+        path, less = Graph(3, ((0, 1), (1, 2))), without_pair(FIVE, (1, 3))
+        for sheet, knots, parts in (
+                (path.lines, (0, 1), (((0, 1),), path.lines)), (path.lines, (0, 2), (((0, 2),), ((0, 1), (0, 2), (1, 2)))),
+                (path.lines, (), ((), path.lines)), (path.lines, (1,), ((), path.lines)), (path.lines, (1, 2), (((1, 2),), path.lines))):
+            for some in (parts, parts[::-1]):
+                value = (*[("drawn", part, turns_by(part)) for part in some], ("split", sheet, knots))
+                self.assertFalse(own_is_parting(path, value))
+                self.assertIs(is_six_or_parting(path, ("parted", value)), False)
+        # Five knots, but not all ten pairs.
+        self.assertIs(is_six_or_parting(less, ("parted", (("five", less.lines),))), False)
+        self.assertIs(is_six_or_parting(ring(5), ("parted", (("five", ring(5).lines),))), False)
+
     def test_turns_with_handles(self):
         # Of all turns of four knots just two draw, begun anywhere.
         sheet = FOUR.lines
@@ -341,15 +354,21 @@ class SixOrParting(unittest.TestCase):
         self.assertIs(is_six_or_parting(FIVE, ("parted", (("drawn", FIVE.lines, turns_by(FIVE.lines)),))), False)
         self.assertIs(is_six_or_parting(CUBIC, ("parted", (("five", CUBIC.lines),))), False)
         wide = tuple(combinations(range(16), 2))
+        for size in (24, 25, 26, 120):
+            value = ("parted", (("drawn", wide[:size], turns_by(wide[:size])),))
+            self.assertIs(is_six_or_parting(LADDER, value), False)
         self.assertIs(is_six_or_parting(LADDER, ("parted", (("drawn", wide, ()),))), False)
 
     def test_the_judged_value_is_never_an_error(self):
         for value in (*GRAPHLIKE, ("parted", None), ("parted", ()), ("parted", (None,)), ("parted", [("five", FIVE.lines)]), ("parted", ((),)),
                       ("parted", (("five", None),)), ("parted", (("drawn", (), None),)), ("parted", (("split", (), ()),)), ("parted", "drawn"),
                       ("parted", (("drawn", ((0, 1),), ((0, None), (1, None))),)), ("parted", (("drawn", ((0, 1),), (None, None)),)),
-                      ("parted", (("five", LONGEST),)), ("parted", (("drawn", ((0, LONG),), ()),)), ("parted", ("five", FIVE.lines)), FIVE_BAR):
+                      ("parted", (("five", LONGEST),)), ("parted", (("drawn", ((0, 1),), ((0, (1,), 0), (1, (0,), 0))),)),
+                      ("parted", (("drawn", ((0, 1),), ((0, [1]), (1, [0]))),)), ("parted", (("drawn", ((0, 1),), ([0, (1,)], [1, (0,)])),)), ("parted", (("drawn", ((0, LONG),), ()),)), ("parted", ("five", FIVE.lines)), FIVE_BAR):
             for graph in (FIVE, CUBIC, GRID):
                 self.assertIs(is_six_or_parting(graph, value), graph is CUBIC and value is CUBE_BAR)
+            self.assertIs(is_six_or_parting(Graph(2, ((0, 1),)), value), False)
+            caught(InvalidGraph, is_six_or_parting, None, value)
 
     def test_speed(self):
         for graph in (LADDER, GRID, complete(6), *GLUED[-6:], *HIDDEN[-6:]):

@@ -303,6 +303,11 @@ class WrongArguments(unittest.TestCase):
                       ("lot", [0]), ("lot", (True,)), ("lot", (1, 0)), ("lot", None), ("lot", 0), ("lot", (0, 0)), ("what", ())):
             self.assertIs(is_led_or_unlike(LETTERS, LETTERS, value), False)
         self.assertIs(is_led_or_unlike(LETTERS, LETTERS, ("led", ())), True)
+        row, others = ("+X", "+X", "+X"), ("+X", "+X", "+Z")
+        for value, wanted in ((("pair", 1, 2), True), (("pair", True, 2), False), (("pair", None, 2), False), (("pair", "1", 2), False),
+                              (("pair", (1,), 2), False), (("pair", -2, 2), False), (("pair", 1, -1), False), (("pair", 2, 1), False),
+                              (("pair", False, 2), False), (("pair", 0, 2), True), (("pair", -LONG, 2), False)):
+            self.assertIs(is_led_or_unlike(row, others, value), wanted)
 
     def test_nothing_is_changed(self):
         rows = (LETTERS, TEN[:9])

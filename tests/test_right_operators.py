@@ -73,6 +73,13 @@ class RightOperators(unittest.TestCase):
             for value in product(all_operators(1), repeat=book.many):
                 self.assertIs(are_right_operators(book, value), own_are_right(book, value))
 
+    def test_all_must_commute(self):
+        # The product of these is -1, but they do not commute.
+        book = Book(4, (((0, 1, 2, 3), 1),))
+        self.assertIs(are_right_operators(book, ("+X", "+Z", "+X", "+Z")), False)
+        self.assertIs(are_right_operators(book, ("+X", "-X", "+Z", "+Z")), False)
+        self.assertIs(are_right_operators(book, ("+X", "-X", "+X", "+X")), True)
+
     def test_letters_I_alone_are_signs(self):
         for book in [FREE, CHAIN, *SMALL[:60]]:
             word, found = signs_or_lot(book)

@@ -310,6 +310,26 @@ class Counts(unittest.TestCase):
             right = sum(own_table(value) == table for value in product(plus, repeat=many))
             self.assertEqual(string_count(many, table, number), right)
 
+    def test_two_couples_by_going_through_all(self):
+        plus = ["+" + "".join(letters) for letters in product("IXYZ", repeat=2)]
+        apart = {(one, other): own_table((one, other)) != () for one in plus for other in plus}
+        counts = {}
+        for value in product(plus, repeat=4):
+            table = tuple(pair for pair in all_pairs(4) if apart[(value[pair[0]], value[pair[1]])])
+            counts[table] = counts.get(table, 0) + 1
+        for table in all_tables(4):
+            self.assertEqual(string_count(4, table, 2), counts.get(table, 0))
+        self.assertEqual((string_count(4, ((0, 1), (2, 3)), 2), sum(counts.values())), (720, 16 ** 4))
+
+    def test_of_any_number_of_letters(self):
+        # All tables together have all tuples of strings.
+        for many, number in ((4, 3), (4, 7), (5, 4), (3, 12), (5, 12)):
+            ranks = {}
+            for table in all_tables(many):
+                ranks.setdefault(own_rank(many, table), []).append(table)
+            total = sum(len(tables) * string_count(many, tables[0], number) for tables in ranks.values())
+            self.assertEqual(total, 4 ** (many * number))
+
     def test_none_below_the_rank(self):
         for many, table in TABLES:
             half = own_rank(many, table) // 2

@@ -6,7 +6,7 @@ from askedapart.net.bars import bar_of, check_bar, is_bar, some_bar
 from askedapart.net.graphs import check_graph, check_paired, graph_of
 from askedapart.net.sheets import is_parting, parting_of, sheet_of
 from askedapart.net.walks import all_lines, ends_of
-from askedapart.say.books import check_book, is_odd, is_paired, pieces
+from askedapart.say.books import is_odd, is_paired, pieces
 from askedapart.sign.answers import are_right_operators, with_right_signs
 from askedapart.sign.operators import is_one
 
@@ -25,7 +25,6 @@ def check_lone(book):
 
 def check_lifted(book, bar):
     """The errors of a book with a bar of its graph."""
-    check_book(book)
     if is_paired(book):
         check_bar(graph_of(book), bar)
     check_lone(book)

@@ -4,8 +4,8 @@ from askedapart.base.checks import has_size, is_index
 from askedapart.errors import InvalidNumber, InvalidOperation, InvalidRow, InvalidTurning, Refused
 from askedapart.net.graphs import check_paired, graph_of
 from askedapart.net.turns import handles, is_turning
-from askedapart.say.books import MOST_UNKNOWNS, check_book, is_odd, is_paired, pieces, with_unknown
-from askedapart.say.undoings import check_undoing, is_undoing, sayings_put
+from askedapart.say.books import MOST_UNKNOWNS, is_odd, is_paired, pieces, with_unknown
+from askedapart.say.undoings import is_undoing, sayings_put
 
 MOST_IN_ROW = 200
 
@@ -17,14 +17,13 @@ def check_turning_of(book, turning):
 
 
 def check_piece(book, piece):
-    """InvalidNumber unless this is the index of a piece."""
+    """The errors of a book with the index of a piece of it."""
     if not is_index(piece, len(pieces(book))):
         raise InvalidNumber(piece)
 
 
 def check_turned_piece(book, turning, piece):
     """The errors of a book with a turning of its graph and a piece; then Refused(("pairs",)) unless it is paired."""
-    check_book(book)
     # There is no graph to ask of a book that is not paired, but its pieces are there.
     if is_paired(book):
         check_turning_of(book, turning)
@@ -45,7 +44,6 @@ def come_to(book, piece, growth):
 
 def is_growth(book, piece, value):
     """Whether the value is a growth of the piece."""
-    check_book(book)
     check_piece(book, piece)
     check_paired(book)
     return is_told_growth(book, piece, value)
@@ -156,10 +154,8 @@ def is_undoing_by(book, turning, piece, value):
 
 def turning_by(book, steps):
     """The turning that an undoing with one put for each saying of some piece, and no swap, tells."""
-    check_book(book)
-    check_undoing(book, steps)
     if not any([is_plain_undoing(book, lot, steps) for lot in pieces(book)]):
-        raise InvalidOperation("not one put for each saying of a piece, or a swap")
+        raise InvalidOperation("no undoing with one put for each saying of a piece, and without swaps")
     check_paired(book)
     told = {step[2]: step[3] for step in steps if step[0] == "put"}
     return tuple([told.get(saying, members) for saying, (members, _) in enumerate(book.sayings)])

@@ -132,7 +132,7 @@ def is_undoing(book, value):
 
 
 def check_undoing(book, steps):
-    """The errors of a book with an undoing of it."""
+    """The errors of a book with an undoing of it, which is steps in any case."""
     if not is_undoing(book, steps):
         raise InvalidOperation("the steps are no undoing of the book")
 
@@ -177,8 +177,6 @@ def hits_in_steps(book, steps):
 
 def paper_of(book, steps):
     """The paper (lot, pairs, hits) that an undoing tells."""
-    check_book(book)
-    check_steps(book, steps)
     check_undoing(book, steps)
     return odd_times(sayings_put(steps)), odd_times(pairs_in_steps(book, steps)), odd_times(hits_in_steps(book, steps))
 

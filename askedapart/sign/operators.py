@@ -84,14 +84,11 @@ def form_times(one, other):
     return (one[0] + other[0] + 2 * passed) & 3, one[1] ^ other[1], one[2] ^ other[2]
 
 
-def are_unlike(one, other):
-    """The bit that is 1 if two forms do not commute."""
-    return (ones(one[1] & other[2]) + ones(one[2] & other[1])) & 1
-
-
 def does_commute(one, other):
     """Whether two operators of one length commute."""
-    return are_unlike(form_of(one), form_of(other)) == 0
+    _, firsts, seconds = form_of(one)
+    _, others, further = form_of(other)
+    return (ones(firsts & further) + ones(seconds & others)) & 1 == 0
 
 
 def do_commute(one, other):

@@ -41,7 +41,7 @@ def table_rows(many, table):
     return [pick_where([(min(e, f), max(e, f)) in table for f in range(many)]) for e in range(many)]
 
 
-def are_apart(rows, bundle, further):
+def unlike_bit(rows, bundle, further):
     """The bit that is 1 if two bundles do not commute."""
     return ones(sum_masks(rows, places_of(bundle)) & further) & 1
 
@@ -49,8 +49,8 @@ def are_apart(rows, bundle, further):
 def freed(rows, bundle, couple):
     """The bundle with such of a couple put to it that it commutes with both."""
     one, other = couple
-    more = one if are_apart(rows, bundle, other) else 0
-    return bundle ^ more ^ (other if are_apart(rows, bundle, one) else 0)
+    more = one if unlike_bit(rows, bundle, other) else 0
+    return bundle ^ more ^ (other if unlike_bit(rows, bundle, one) else 0)
 
 
 def couples_and_rest(rows):
@@ -59,7 +59,7 @@ def couples_and_rest(rows):
     couples, rest = [], []
     while left:
         one, *others = left
-        unlike = [bundle for bundle in others if are_apart(rows, one, bundle)]
+        unlike = [bundle for bundle in others if unlike_bit(rows, one, bundle)]
         if unlike:
             couple = (one, unlike[0])
             couples.append(couple)
@@ -88,7 +88,7 @@ def do_bundles_commute(many, table, bundle, further):
 
 def do_places_commute(rows, bundle, further):
     """Whether two bundles, told by their unknowns, commute."""
-    return not are_apart(rows, bundle_of(bundle), bundle_of(further))
+    return not unlike_bit(rows, bundle_of(bundle), bundle_of(further))
 
 
 def bundle_of(unknowns):
@@ -100,8 +100,8 @@ def strings_by(rows, couples, number):
     """Strings of so many letters, one for each couple at least; one letter I each, if the number is 0."""
     found = []
     for e in range(len(rows)):
-        firsts = [are_apart(rows, 1 << e, other) for _, other in couples]
-        seconds = [are_apart(rows, 1 << e, one) for one, _ in couples]
+        firsts = [unlike_bit(rows, 1 << e, other) for _, other in couples]
+        seconds = [unlike_bit(rows, 1 << e, one) for one, _ in couples]
         letters = letters_of(firsts, seconds)
         found.append("+" + letters + "I" * (max(number, 1) - len(letters)))
     return tuple(found)
