@@ -58,7 +58,43 @@ LISTED = {
         TEN=('+XII','+IXI','+IIX','+XXX','+IIZ','+IZI','+XZZ','+ZII','+ZXZ','+ZZX')""",
     "askedapart.main.answers": """kinds(book) answer(book) is_answer(book,value)
         turned_operators(book,unknowns,operators)""",
+    "askedapart.main.lesser": """lesser(book,step) stays(book,step) book_behind(book,steps) led_up(book,steps,operators)
+        core_kind(book) is_least(book) core_or_turning(book) is_core_or_turning(book,value)""",
+    "askedapart.play.games": """questions(book) is_plan(book,value) lost(book,plan) plan_by(book,signs) fewest_lost(book)
+        best_plan(book) is_best_plan(book,value) losing(book,question) is_losing(book,question,value)
+        least_chance(book,mix) best_mix(book) is_best_mix(book,value) MOST_TRIED=12 MOST_PLANS=400""",
+    "askedapart.play.pairs": """is_state(value) form(state) fixed_bit(state,operator) measured(state,operator,bit)
+        outcomes(state,row) parting(one,other) is_parting(one,other,value) mirrored(operator) shared_pairs(number)
+        pair_outcomes(row,others) MOST_PAIRS=6 MOST_OUTCOMES=4096""",
+    "askedapart.play.sure": """are_players(book,value) can_come(book,players,saying,unknown)
+        chance(book,players,saying,unknown,told) second_chance(book,players,unknown)
+        win_chance(book,players,saying,unknown) all_chance(book,players) sure_players(book,operators)
+        sure_or_lost(book,players) is_sure_or_lost(book,players,value)""",
+    "askedapart.more.odds": """is_odd_book(value) are_numbers(book,value) are_right_shifts(book,value)
+        is_shift(modulus,value) shift_product(modulus,one,other) shift_power(modulus,shift,times)
+        do_shifts_commute(modulus,one,other) shift_number(modulus,shift) numbers_by(book,shifts)
+        numbers_or_weights(book) is_numbers_or_weights(book,value) number_count(book) MODULI=(3,5,7,9)""",
+    "askedapart.more.picks": """is_outcome(book,value) outcomes_of(book,saying) do_agree(book,one,other)
+        signs_telling(book,outcomes) is_pick(book,value) pick_by(book,signs) pick_count(book) pick_or_lot(book)
+        is_pick_or_lot(book,value) most_agreeing(book) is_most_agreeing(book,value) outcomes_by(book,operators,saying)
+        do_bar(book,operators,one,other) both_chance(book,operators,one,other)""",
+    "askedapart.text.texts": """book_text(book) read_book(text) graph_text(graph) read_graph(text)
+        turning_text(graph,turning) read_turning(graph,text) signs_text(book,signs) read_signs(book,text)
+        operators_text(book,operators) read_operators(book,text) steps_text(book,steps) read_steps(book,text)
+        answer_text(book,value) read_answer(book,text) MOST_TEXT=200000""",
+    "askedapart.bench.bench": """Bench(book) led_signs(book,deed,signs) led_operators(book,deed,operators)
+        MOST_DEEDS=200""",
+    "askedapart.judge.claims": """is_claim(value) opposite(claim) does_take(claim,value) settled(claim)
+        led_paper(claim,value,word) MOST_CLAIMS=8""",
 }
+# The methods and properties of each class, all of them defined in the class itself.
+METHODS = {
+    "askedapart.say.books": {"Book": "many sayings __eq__ __str__"},
+    "askedapart.net.graphs": {"Graph": "many lines __eq__ __str__"},
+    "askedapart.bench.bench": {"Bench": "book deeds do undo again kinds answer __str__"},
+}
+OPPOSITES = dict(signs="lot", operators="barred", held="undone", planar="bar", even="odd", six="parted", core="flat",
+                 led="unlike", numbers="weights", each="some")
 
 
 def arguments(node):
@@ -85,6 +121,16 @@ class Interface(unittest.TestCase):
     def test_all_that_is_listed_is_defined_there(self):
         for module, listed in LISTED.items():
             self.assertEqual(set(listed.split()) - written(module), set(), module)
+
+    def test_methods(self):
+        for module, classes in METHODS.items():
+            held = vars(importlib.import_module(module))
+            for name, listed in classes.items():
+                self.assertEqual(set(listed.split()) - set(vars(held[name])), set(), name)
+
+    def test_opposites(self):
+        held = importlib.import_module("askedapart.judge.claims").OPPOSITES
+        self.assertEqual(held, {**OPPOSITES, **{other: word for word, other in OPPOSITES.items()}})
 
     def test_all_can_be_imported(self):
         for module, listed in LISTED.items():

@@ -33,6 +33,11 @@ def are_ascending(value, many):
     return all([value[k] < value[k + 1] for k in range(len(value) - 1)])
 
 
+def is_order(value, many):
+    """Whether the value is a tuple of all integers from 0 to many - 1, each once."""
+    return has_size(value, many, many) and all([is_index(at, many) for at in value]) and len(set(value)) == many
+
+
 def are_pairs_below(value, many, more):
     """Whether the value is an ascending tuple of pairs of an index below many and one below more; () is one."""
     if not has_size(value, 0, many * more) or not all([has_size(pair, 2, 2) for pair in value]):

@@ -4,7 +4,7 @@ Sums go on inside as numbers, as in askedapart.base.bits: digit k stands for the
 """
 
 from askedapart.base.bits import put_apart, sum_or_test_masks, places_of
-from askedapart.base.checks import are_pairs_below, are_rising_pairs, has_size, is_index, is_told
+from askedapart.base.checks import are_pairs_below, are_rising_pairs, is_order, is_told
 from askedapart.base.lots import odd_times, pairs_of
 from askedapart.errors import InvalidOperation
 from askedapart.net.bars import bar_pairs, check_bar
@@ -60,8 +60,7 @@ def are_moves(graph, value):
 
 def check_order(graph, value):
     """InvalidOperation unless the value is a tuple of all knots, each once."""
-    many = graph.many
-    if not has_size(value, many, many) or not all([is_index(knot, many) for knot in value]) or len(set(value)) < many:
+    if not is_order(value, graph.many):
         raise InvalidOperation("an order is a tuple of all knots, each once")
 
 

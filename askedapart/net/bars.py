@@ -5,7 +5,7 @@ from askedapart.base.lots import pairs_of
 from askedapart.errors import InvalidOperation, Refused
 from askedapart.net.draw import critical_among
 from askedapart.net.graphs import check_graph, is_walk
-from askedapart.net.walks import all_lines, far_end, knots_along, merged
+from askedapart.net.walks import all_lines, ends_of, far_end, knots_along, lines_within, merged
 
 
 def pairs_between(ones, others):
@@ -151,13 +151,14 @@ def is_clump(graph, value):
     """Whether the value is an ascending tuple of knots, at least one, that hang together by lines between them."""
     if not are_ascending(value, graph.many) or value == ():
         return False
-    labels = merged(graph.many, [(low, high) for low, high in graph.lines if low in value and high in value])
+    labels = merged(graph.many, ends_of(graph, lines_within(graph, value)))
     return all([labels[knot] == value[0] for knot in value])
 
 
-def is_joined(graph, one, other):
-    """Whether a line joins two clumps."""
-    return any([(low in one and high in other) or (low in other and high in one) for low, high in graph.lines])
+def lines_between(graph, one, other):
+    """The list of the lines that join two clumps."""
+    return [line for line, (low, high) in enumerate(graph.lines)
+            if (low in one and high in other) or (low in other and high in one)]
 
 
 def are_clumps(graph, value):
@@ -169,7 +170,7 @@ def are_clumps(graph, value):
     met = [knot for side in both for clump in side for knot in clump]
     if len(set(met)) < len(met) or both != sorted_sides(both):
         return False
-    return all([is_joined(graph, one, other) for one, other in clump_pairs(both[0], both[1])])
+    return all([lines_between(graph, one, other) != [] for one, other in clump_pairs(both[0], both[1])])
 
 
 def sorted_sides(both):
@@ -205,8 +206,7 @@ def bar_by_clumps(graph, clumps):
     """A bar all of whose knots are in the clumps."""
     check_clumps(graph, clumps)
     met = [knot for side in sides_of_clumps(clumps) for clump in side for knot in clump]
-    inner = [line for line, (low, high) in enumerate(graph.lines) if low in met and high in met]
-    return bar_of(graph, critical_among(graph, inner))
+    return bar_of(graph, critical_among(graph, lines_within(graph, met)))
 
 
 def grown(graph, clumps):

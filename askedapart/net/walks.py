@@ -35,6 +35,11 @@ def ends_of(graph, lines):
     return [graph.lines[line] for line in lines]
 
 
+def lines_within(graph, knots):
+    """The list of the lines between two of the knots."""
+    return [line for line, (low, high) in enumerate(graph.lines) if low in knots and high in knots]
+
+
 def knots_along(graph, start, lines):
     """The knots that are met along the lines from the start on, or () if a line does not go on there."""
     knots = [start]

@@ -59,6 +59,18 @@ def check_lot(book, value):
         raise InvalidLot("a lot is an ascending tuple of indices of sayings")
 
 
+def check_saying(book, saying):
+    """InvalidNumber unless this is the index of a saying of the book."""
+    if not is_index(saying, len(book.sayings)):
+        raise InvalidNumber(saying)
+
+
+def check_unknown(book, unknown):
+    """InvalidNumber unless this is an unknown of the book."""
+    if not is_index(unknown, book.many):
+        raise InvalidNumber(unknown)
+
+
 def is_lot(book, value):
     """Whether the value is a lot of the book; () is one."""
     check_book(book)
@@ -109,8 +121,7 @@ def with_unknown(book, unknown):
 def sayings_with(book, unknown):
     """The ascending tuple of the sayings with the unknown."""
     check_book(book)
-    if not is_index(unknown, book.many):
-        raise InvalidNumber(unknown)
+    check_unknown(book, unknown)
     return with_unknown(book, unknown)
 
 

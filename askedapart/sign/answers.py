@@ -33,6 +33,12 @@ def check_operators_for(book, value):
         raise InvalidOperator("a tuple of operators of one length, one for each unknown, is asked for")
 
 
+def check_right(book, operators):
+    """InvalidOperation unless the operators are right for the book."""
+    if not are_right_operators(book, operators):
+        raise InvalidOperation("the operators are not right for the book")
+
+
 def table_of(book, operators):
     """The table of those of the operators that do not commute."""
     check_operators_for(book, operators)

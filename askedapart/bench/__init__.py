@@ -1,0 +1,1 @@
+"""A bench on which a book is led by deeds."""

@@ -1,0 +1,1 @@
+"""Claims with their opposites, and one judge of all papers."""

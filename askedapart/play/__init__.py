@@ -1,0 +1,1 @@
+"""Players of the games of books: with plain signs, and with shared qubits."""

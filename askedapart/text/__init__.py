@@ -1,0 +1,1 @@
+"""Texts of books, graphs, turnings, signs, operators, undoings and answers."""
