@@ -13,7 +13,7 @@ from askedapart.net.graphs import Graph
 from askedapart.say.books import Book, beside
 from book_samples import (BOTH, FREE, WIDER, barred_book, bent, drawn_longer, even_book, hidden, lot_bit, odd_bits, own_is_paper, paired_of, plain_graph,
                           planar_book)
-from graph_samples import (BARES, CUBE_BAR, CUBIC, FIVE, FLAT, FOUR, GRID, KITE, LADDER, NAMED, PETERSEN, TWO_RINGS, check_errors, complete, grown_drawing,
+from graph_samples import (BARES, CUBE_BAR, CUBIC, FIVE, FIVE_BAR, FLAT, FOUR, GRID, KITE, LADDER, NAMED, PETERSEN, TWO_RINGS, check_errors, complete, grown_drawing,
                            is_own_turning, own_handles, own_is_bar, small_graphs, with_hidden_bar)
 from operator_samples import LETTERS, negated, own_are_right, own_is_operator, own_led, random_operators
 from samples import CHAIN, LARGE, LONG, LONGEST, NOTHING, PENTAGRAM, SQUARE, TRIANGLE, caught, deep, random_paired, small_books
@@ -189,7 +189,8 @@ class Claims(unittest.TestCase):
 
     def test_no_claims(self):
         odd_thing, wide = (3, 1, ((((0, 1),), 0),)), ("signs", SQUARE)
-        for value in (*NOTHING, "signs", ("signs",), ("signs", None), ("signs", FOUR), ("signs", odd_thing), ("signs", SQUARE, SQUARE), ["signs", SQUARE], ("lot", SQUARE, 0),
+        for value in (*NOTHING, "signs", ("signs",), ("signs", None), ("signs", FOUR), ("signs", odd_thing), ("signs", SQUARE, SQUARE), ["signs", SQUARE], ("lot", SQUARE, 0), ("planar", FOUR, FOUR), ("six", FOUR, 0),
+                      ("numbers", TWO, TWO), ("weights", TWO, 0), ("held", TRIANGLE, TRIANGLE), ("core", TRIANGLE, 0), ("led", ("+X",)), ("bar",), ("odd",), ("numbers",), ("core",), ("unlike",),
                       ("what", SQUARE), ("SIGNS", SQUARE), (("signs",), SQUARE), (["signs"], SQUARE), (SQUARE, "signs"), (None, SQUARE), ({}, SQUARE), (True, SQUARE),
                       ("held", CHAIN), ("undone", CHAIN), ("held", FOUR), ("planar", SQUARE), ("bar", None), ("even", FLAT), ("six", (4, FOUR.lines)), ("parted", TRIANGLE),
                       ("core", BOTH), ("flat", BOTH), ("core", bent(SQUARE, 0)), ("flat", CHAIN), ("flat", FOUR), ("core", beside(SQUARE, bent(TRIANGLE, 0))),
@@ -270,6 +271,8 @@ class TheJudge(unittest.TestCase):
                 (("weights", NINES), (1, 1, 1, 8, 8, 8)), (("weights", NINES), (2, 2, 2, 7, 7, 7)), (("six", CUBIC), CUBE_BAR), (("parted", FIVE), (("five", FIVE.lines),))):
             wanted = own_takes(claim, value)
             self.assertIs(does_take(claim, value), wanted, (claim, value))
+        for claim, value in ((("bar", FIVE), FIVE_BAR), (("bar", CUBIC), CUBE_BAR), (("six", FIVE), FIVE_BAR), (("six", complete(6)), FIVE_BAR), (("bar", complete(6)), FIVE_BAR)):
+            self.assertIs(does_take(claim, value), claim[0] == "bar" and claim[1] != complete(6))
         for graph in (KITE, TWO_RINGS, GRID, FIVE):
             self.assertIs(does_take(("parted", graph), some_parting(graph)), True)
         self.assertIs(does_take(("led", ("+X",), ("+X",)), ("+Y",) * 204), False)

@@ -293,7 +293,9 @@ class Core(unittest.TestCase):
                 for worse in (None, list(step), step[:-1], (*step, 0), ("join", True), ("out", step[1], True), LONGEST):
                     self.assertIs(is_core_or_turning(book, ("core", (*steps[:at], worse, *steps[at + 1:]))), False)
             self.assertIs(is_core_or_turning(book, ("core", list(steps))), False)
-            self.assertIs(is_core_or_turning(book, ("core", (*steps, ("join", 0)))), False)
+            # What comes behind a square must be done, too, and lead to another one.
+            for worse in (("join", 0), ("join", 99), ("out", 0, 2), None, ()):
+                self.assertIs(is_core_or_turning(book, ("core", (*steps, worse))), False)
         self.assertGreater(judged.count(True), 40)
         self.assertGreater(judged.count(False), 40)
 

@@ -178,6 +178,7 @@ class Books(unittest.TestCase):
                       (True, 2, ((terms, 1),)), (3, True, ((terms, 1),)), (3, 0, ((terms, 1),)), (3, 25, ((terms, 1),)), (3, 2, [(terms, 1)]), (3, 2, ((terms, 3),)),
                       (3, 2, ((terms, -1),)), (3, 2, ((terms, True),)), (3, 2, ((terms,),)), (3, 2, (((), 1),)), (3, 2, (([(0, 1)], 1),)), (3, 2, ((((1, 1), (0, 1)), 1),)),
                       (3, 2, ((((0, 1), (0, 2)), 1),)), (3, 2, ((((0, 0),), 1),)), (3, 2, ((((0, 3),), 1),)), (3, 2, ((((2, 1),), 1),)), (3, 2, ((((0, True),), 1),)),
+                      (3, True, ((((0, 1),), 1),)), (3, 2, ((((0, 1, 0),), 1),)), (3, 2, ((((0,),), 1),)), (3, 2, ((((0, 1),), 1, 0),)), (3, 2, ((((0, 1),),),)),
                       (3, 2, ((((False, 1),), 1),)), (3, 2, ((([0, 1],), 1),)), (3, 2, (((0, 1), 1),)), (3, 2, ((terms, 1),) * 17), (3, 9, ((tuple((e, 1) for e in range(9)), 0),)),
                       (LONG, 2, ((terms, 1),)), (3, LONG, ((terms, 1),)), (3, 2, ((terms, LONG),)), (3, 2, ((((0, LONG),), 1),)), (3, 2, None), (SQUARE, 2, ()), SQUARE,
                       ((3,), 2, ((terms, 1),)), ([3], 2, ()), (None, 2, ((terms, 1),)), ("3", 2, ((terms, 1),)), deep(THREES, 2, tuple)):
@@ -208,7 +209,7 @@ class Shifts(unittest.TestCase):
             for places in (1, 2, 12):
                 self.assertIs(is_shift(m, random_shift(m, places)), True)
             for value in (*NOTHING, (0, (), ()), (0, (0,) * 13, (0,) * 13), (0, (0,), (0, 0)), (0, (0, 0), (0,)), (m, (0,), (0,)), (0, (m,), (0,)), (0, (0,), (m,)), (-1, (0,), (0,)),
-                          (True, (0,), (0,)), (0, (True,), (0,)), (0, (0,), (False,)), [0, (0,), (0,)], (0, [0], (0,)), (0, (0,), [0]), (0, (0,)), (0, (0,), (0,), 0), ((0,), 0, (0,)),
+                          (True, (0,), (0,)), (0, (True,), (0,)), (0, (0,), (False,)), [0, (0,), (0,)], (0, [0], (0,)), (0, (0,), [0]), (0, (0,)), (0, (0,), (0,), 0), (0, 0, (0,)), (0, (0,), 0), ((0,), 0, (0,)),
                           (None, (0,), (0,)), (0, None, None), (LONG, (0,), (0,)), (0, (LONGEST,), (0,)), "0", (0, "0", "0")):
                 self.assertIs(is_shift(m, value), False)
         self.assertIs(is_shift(5, (4, (4,), (0,))), True)
@@ -298,6 +299,16 @@ class RightShifts(unittest.TestCase):
         self.assertEqual(set(seen), {True, False})
         for value in NOTHING:
             self.assertIs(are_right_shifts(TWO, value), False)
+
+    def test_a_right_product_of_shifts_that_do_not_commute(self):
+        for m in MODULI:
+            one, other = (0, (1,), (0,)), (0, (0,), (1,))
+            last = (1, (m - 1,), (m - 1,))
+            number = own_product(m, own_product(m, one, other), last)[0]
+            book = (m, 3, ((((0, 1), (1, 1), (2, 1)), number),))
+            self.assertEqual(own_product(m, own_product(m, one, other), last), (number, (0,), (0,)))
+            self.assertIs(are_right_shifts(book, (one, other, last)), False)
+            caught(InvalidOperation, numbers_by, book, (one, other, last))
 
     def test_numbers_are_shifts_with_zeros(self):
         for book in SMALL:

@@ -235,7 +235,8 @@ class Most(unittest.TestCase):
                 true = [s for s, (members, bit) in enumerate(book.sayings) if sum(signs[e] for e in members) % 2 == bit]
                 some = tuple((s, tuple(signs[e] for e in book.sayings[s][0])) for s in true)
                 missing = len(book.sayings) - len(some)
-                for lots in list(combinations(right, missing))[:6] + [tuple(right), (), tuple(right[:1]), tuple(right[::-1])]:
+                wrong = [tuple(sorted(CHANCE.sample(all_picks(len(book.sayings)), min(missing, 2)))) for _ in range(4)]
+                for lots in list(combinations(right, missing))[:6] + [tuple(right), (), tuple(right[:1]), tuple(right[::-1])] + wrong:
                     for value in ((some, lots), (some[1:], lots), (some[::-1], lots), (some + some[:1], lots)):
                         seen.append(self.own_is_most(book, value))
                         self.assertIs(is_most_agreeing(book, value), seen[-1])
@@ -379,6 +380,14 @@ class WrongArguments(unittest.TestCase):
         for call in (do_bar, both_chance):
             caught(InvalidOperation, call, SQUARE, wrong, (0, (0, 0, 0)), (3, (0, 1, 1)))
             caught(InvalidOperator, call, SQUARE, wrong[1:], None, None)
+
+    def test_operators_that_are_not_right_elsewhere(self):
+        wrong = (*LETTERS[:8], negated(LETTERS[8]))
+        for one in ((0, (0, 0, 0)), (1, (0, 1, 1))):
+            for call in (do_bar, both_chance):
+                caught(InvalidOperation, call, SQUARE, wrong, one, (3, (0, 1, 1)))
+        self.assertEqual(len(outcomes_by(SQUARE, LETTERS, 0)), 4)
+        caught(InvalidOperation, outcomes_by, SQUARE, wrong, 0)
 
     def test_nothing_is_changed_and_equal_calls_return_equal_results(self):
         for book in PAIRED[:10]:

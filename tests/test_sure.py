@@ -248,7 +248,7 @@ class SureOrLost(unittest.TestCase):
                 _, s, e, bits, bit = found
                 for worse in (found[:-1], (*found, 0), list(found), ("lost", s, e, list(bits), bit), ("lost", s, e, bits, bool(bit)), ("sure", *found[1:]),
                               ("lost", bool(s), e, bits, bit), ("lost", s, e, bits[1:], bit), ("lost", s, e, (*bits, 0), bit), ("lost", len(book.sayings), e, bits, bit),
-                              ("lost", s, book.many, bits, bit), ("lost", s, -1, bits, bit), ("lost", s, e, tuple(bool(one) for one in bits), bit),
+                              ("lost", s, book.many, bits, bit), ("lost", s, -1, bits, bit), ("lost", s, bool(e), bits, bit), ("lost", s, e, tuple(bool(one) for one in bits), bit),
                               ("lost", s, e, bits, 2), ("lost", LONG, e, bits, bit), ("lost", s, None, bits, bit), ("lost", s, e, None, bit)):
                     self.assertIs(is_sure_or_lost(book, players, worse), False)
         self.assertGreater(min(judged.count(True), judged.count(False)), 100)

@@ -156,7 +156,7 @@ def is_crossed(graph):
 
 
 def core_kind(book):
-    """"square" or "pentagram" if the book is one, otherwise None."""
+    """The word "square" or "pentagram" if the book is one, otherwise None."""
     check_paired(book)
     if not is_odd(book, tuple(range(len(book.sayings)))):
         return None
